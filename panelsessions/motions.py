@@ -1,19 +1,10 @@
 """Motions of a panel: left and right changed, and quarter turns."""
 
 from panelsessions.panels import Panel
-from panelsessions.panels import upright_count
+from panelsessions.panels import level_sign
+from panelsessions.panels import upright_sign
 
 MOST_MOTION = 7
-
-
-def upright_sign(panel, x, y):
-    """What stands between the squares (x, y) and (x + 1, y)."""
-    return panel.signs[y * (panel.wide - 1) + x]
-
-
-def level_sign(panel, x, y):
-    """What stands between the squares (x, y) and (x, y + 1)."""
-    return panel.signs[upright_count(panel.wide, panel.high) + y * panel.wide + x]
 
 
 def mirrored(panel):

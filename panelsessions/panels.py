@@ -3,6 +3,8 @@
 PANEL_MARK = (0x50, 0x4C, 0x50, 0x31)
 HEAD_SIZE = 6
 MOST_SIDE = 8
+CROSSING = 0
+ALONG = 1
 MOST_SIGN = 2
 
 
@@ -23,6 +25,16 @@ def upright_count(wide, high):
 def place_count(wide, high):
     """How many places a panel of this size has."""
     return upright_count(wide, high) + wide * (high - 1)
+
+
+def upright_sign(panel, x, y):
+    """What stands between the squares (x, y) and (x + 1, y)."""
+    return panel.signs[y * (panel.wide - 1) + x]
+
+
+def level_sign(panel, x, y):
+    """What stands between the squares (x, y) and (x, y + 1)."""
+    return panel.signs[upright_count(panel.wide, panel.high) + y * panel.wide + x]
 
 
 def is_side(number):

@@ -1,22 +1,30 @@
 """The record: what it holds, what each call does to it, and what is answered."""
 
+from panelsessions.drawings import drawing_bytes
 from panelsessions.journals import NOTE_SIZE
+from panelsessions.journals import beginning_bytes
 from panelsessions.journals import beginning_size
 from panelsessions.journals import begun_journal
 from panelsessions.journals import note_change
 from panelsessions.journals import play_notes
 from panelsessions.journals import read_beginning
 from panelsessions.motions import MOST_MOTION
+from panelsessions.panels import CROSSING
 from panelsessions.panels import MOST_SIGN
+from panelsessions.panels import panel_bytes
 from panelsessions.panels import read_panel
 from panelsessions.sessions import MOST_STEPS
 from panelsessions.sessions import MOVE
+from panelsessions.sessions import REDO
 from panelsessions.sessions import SET
 from panelsessions.sessions import Session
 from panelsessions.sessions import UNDO
+from panelsessions.sessions import back_count
 from panelsessions.sessions import change_bytes
 from panelsessions.sessions import panel_now
 from panelsessions.sessions import read_session
+from panelsessions.sessions import session_bytes
+from panelsessions.strands import strand_count
 
 CALL_BEGIN = 1
 CALL_LOAD = 2
@@ -24,6 +32,11 @@ CALL_PLAY = 3
 CALL_SET_AT = 4
 CALL_MOVE = 5
 CALL_UNDO = 6
+CALL_REDO = 7
+CALL_PANEL = 8
+CALL_DRAWN = 9
+CALL_COUNTS = 10
+CALL_SAVE = 11
 
 MOST_PANEL_BYTES = 1024
 MOST_BYTES = 65536
@@ -38,8 +51,9 @@ NO_SESSION = -8
 WRONG_BYTES = -9
 
 
-class CallNotBuilt(Exception):
-    """A call that this program has no answer to yet."""
+def counted(numbers):
+    """How many numbers these are, and then they."""
+    return [len(numbers)] + numbers
 
 
 class Record:
@@ -99,6 +113,30 @@ class Record:
             return [NOTHING_THERE]
         return [0] + note_change(self.journal, change_bytes(UNDO, 0, 0))
 
+    def redo(self):
+        if back_count(self.journal.session) == 0:
+            return [NOTHING_THERE]
+        return [0] + note_change(self.journal, change_bytes(REDO, 0, 0))
+
+    def panel(self):
+        return counted(panel_bytes(panel_now(self.journal.session)))
+
+    def drawn(self):
+        return counted(drawing_bytes(panel_now(self.journal.session)))
+
+    def counts(self):
+        session = self.journal.session
+        panel = panel_now(session)
+        crossings = panel.signs.count(CROSSING)
+        return [0, panel.wide, panel.high, crossings, strand_count(panel), session.done, back_count(session)]
+
+    def save(self):
+        return counted(session_bytes(self.journal.session))
+
+    def head(self):
+        self.journal = begun_journal(self.journal.session)
+        return counted(beginning_bytes(self.journal.session))
+
 
 def call_end(calls, at):
     """Where the call ends that begins there."""
@@ -112,6 +150,31 @@ def call_end(calls, at):
     return at + 1
 
 
+def answer_to_change(record, call):
+    """What a call answers that changes the session and is noted."""
+    number = call[0]
+    if number == CALL_SET_AT:
+        return record.set_at(call[1], call[2])
+    if number == CALL_MOVE:
+        return record.move(call[1])
+    if number == CALL_UNDO:
+        return record.undo()
+    return record.redo()
+
+
+def answer_to_question(record, number):
+    """What a call answers that asks for the session or what it comes to."""
+    if number == CALL_PANEL:
+        return record.panel()
+    if number == CALL_DRAWN:
+        return record.drawn()
+    if number == CALL_COUNTS:
+        return record.counts()
+    if number == CALL_SAVE:
+        return record.save()
+    return record.head()
+
+
 def answer_to(record, call):
     """What one call answers; call is its number and all that belongs to it."""
     number = call[0]
@@ -123,13 +186,9 @@ def answer_to(record, call):
         return record.play(call[2:])
     if record.journal is None:
         return [NO_SESSION]
-    if number == CALL_SET_AT:
-        return record.set_at(call[1], call[2])
-    if number == CALL_MOVE:
-        return record.move(call[1])
-    if number == CALL_UNDO:
-        return record.undo()
-    raise CallNotBuilt(f"call {number} is not built yet")
+    if number <= CALL_REDO:
+        return answer_to_change(record, call)
+    return answer_to_question(record, number)
 
 
 def answers(calls):

@@ -35,6 +35,11 @@ def panel_now(session):
     return session.panels[session.done]
 
 
+def back_count(session):
+    """How many steps are taken back."""
+    return len(session.steps) - session.done
+
+
 def change_bytes(kind, first, second):
     """The 8 bytes of a change; first and second are 0 for undo and redo."""
     return [kind, 0] + low_first(first, 2) + low_first(second, 2) + [0, 0]
@@ -75,7 +80,7 @@ def do_change(session, code):
         session.done -= 1
         return True
     if code == change_bytes(REDO, 0, 0):
-        if session.done == len(session.steps):
+        if back_count(session) == 0:
             return False
         session.done += 1
         return True
@@ -87,7 +92,7 @@ def session_bytes(session):
     panel = panel_bytes(session.panels[0])
     numbers = list(SESSION_MARK) + low_first(len(panel), 4) + panel
     numbers.extend(low_first(session.done, 4))
-    numbers.extend(low_first(len(session.steps) - session.done, 4))
+    numbers.extend(low_first(back_count(session), 4))
     for code in session.steps:
         numbers.extend(code)
     return numbers + sum_bytes(bits_after(ALL_BITS, numbers))

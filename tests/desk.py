@@ -1,9 +1,15 @@
 """What the tests build by the document's words alone: bytes, calls, and a slow model of a session."""
 
-from panelsessions.panels import panel_bytes
-from panelsessions.record import Record, answer_to, answers
-from panelsessions.sessions import panel_now, session_bytes
+from panelsessions.record import answers
 
+# The calls without numbers that ask for something.
+PANEL = [8]
+DRAWN = [9]
+COUNTS = [10]
+SAVE = [11]
+HEAD = [12]
+
+# The 8 bytes of changes.
 UNDO = [2, 0, 0, 0, 0, 0, 0, 0]
 REDO = [3, 0, 0, 0, 0, 0, 0, 0]
 
@@ -116,6 +122,19 @@ def undo():
     return [6]
 
 
+def redo():
+    return [7]
+
+
+def call_of(change):
+    """The call that does this change."""
+    if change == UNDO:
+        return undo()
+    if change == REDO:
+        return redo()
+    return move(change[2]) if change[0] else set_at(change[2], change[4])
+
+
 def split(given):
     """The answers one by one."""
     found = []
@@ -134,12 +153,15 @@ def ask(*calls):
 
 def held(*calls):
     """The bytes of the session, and of the panel as it stands, that a new record holds behind these calls."""
-    record = Record()
-    for call in calls:
-        answer_to(record, list(call))
-    if record.journal is None:
+    saved, shown = ask(*calls, SAVE, PANEL)[-2:]
+    if [saved, shown] == [[-8], [-8]]:
         return None
-    return session_bytes(record.journal.session), panel_bytes(panel_now(record.journal.session))
+    return saved[1:], shown[1:]
+
+
+def counted(numbers):
+    """How panel, drawn, save and head answer these bytes."""
+    return [len(numbers)] + numbers
 
 
 def noted(begun, changes):
@@ -161,6 +183,56 @@ def moved(numbers, motion):
         signs = {goes(pair, lambda x, y: (high - 1 - y, x)): sign for pair, sign in signs.items()}
         wide, high = high, wide
     return panel(wide, high, [signs[pair] for pair in places(wide, high)])
+
+
+def drawing(numbers):
+    """The bytes of a panel's drawing, put sign by sign on a blank sheet."""
+    wide, high = numbers[4], numbers[5]
+    sheet = [[" "] * (2 * wide - 1) for _ in range(2 * high - 1)]
+    for y in range(high):
+        for x in range(wide):
+            sheet[2 * y][2 * x] = "o"
+    for ((x, y), (right, low_row)), sign in zip(places(wide, high), numbers[6:]):
+        sheet[y + low_row][x + right] = "x|-"[sign] if y == low_row else "x-|"[sign]
+    return list("".join("".join(row) + "\n" for row in sheet).encode())
+
+
+def ends_at(square, side):
+    """The end there of the piece that begins at this side, and of the one that ends there."""
+    return 8 * square + 2 * side, 8 * square + 2 * ((side - 1) % 4) + 1
+
+
+def joined(numbers):
+    """All pairs of joined ends: every border side, and every place, by itself."""
+    wide, high = numbers[4], numbers[5]
+    found = []
+    for x in range(wide):
+        found += [ends_at(x, 0), ends_at((high - 1) * wide + x, 2)]
+    for y in range(high):
+        found += [ends_at(y * wide, 3), ends_at(y * wide + wide - 1, 1)]
+    for ((x, y), (right, low_row)), sign in zip(places(wide, high), numbers[6:]):
+        side = 1 if y == low_row else 2
+        here = ends_at(y * wide + x, side)
+        beyond = ends_at(low_row * wide + right, (side + 2) % 4)
+        if sign == 1:
+            found += [here, beyond]
+        elif sign == 0:
+            found += [(here[0], beyond[0]), (here[1], beyond[1])]
+        else:
+            found += [(here[0], beyond[1]), (here[1], beyond[0])]
+    return found
+
+
+def strands(numbers):
+    """How many strands a panel has: pieces are thrown together, join by join."""
+    heaps = [{piece} for piece in range(4 * numbers[4] * numbers[5])]
+    for one, other in joined(numbers):
+        first, second = heaps[one // 2], heaps[other // 2]
+        if first is not second:
+            first |= second
+            for piece in second:
+                heaps[piece] = first
+    return len({id(heap) for heap in heaps})
 
 
 class Model:
@@ -190,5 +262,38 @@ class Model:
     def redo(self):
         self.done.append(self.back.pop(0))
 
+    def can(self, change):
+        """Whether an undo, a redo or a right step can be done now."""
+        if change == UNDO:
+            return bool(self.done)
+        if change == REDO:
+            return bool(self.back)
+        return len(self.done) < 64
+
+    def change(self, change):
+        if change == UNDO:
+            self.undo()
+        elif change == REDO:
+            self.redo()
+        else:
+            self.step(change)
+
+    def behind(self, changes):
+        """Another model, behind these changes."""
+        other = Model(self.first, self.done, self.back)
+        for change in changes:
+            other.change(change)
+        return other
+
     def bytes(self):
         return session(self.first, self.done, self.back)
+
+    def counts(self):
+        numbers = self.panel()
+        steps = [len(self.done), len(self.back)]
+        return [0, numbers[4], numbers[5], numbers[6:].count(0), strands(numbers)] + steps
+
+    def asked(self):
+        """What panel, drawn, counts and save answer."""
+        numbers = self.panel()
+        return [counted(numbers), counted(drawing(numbers)), self.counts(), counted(self.bytes())]

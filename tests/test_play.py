@@ -12,15 +12,7 @@ CHANGES = [desk.REDO, desk.set_step(0, 2), desk.UNDO, desk.UNDO, desk.REDO, desk
 
 
 def model_behind(changes):
-    model = desk.Model(FIRST, DONE, BACK)
-    for change in changes:
-        if change == desk.UNDO:
-            model.undo()
-        elif change == desk.REDO:
-            model.redo()
-        else:
-            model.step(change)
-    return model
+    return desk.Model(FIRST, DONE, BACK).behind(changes)
 
 
 class Play(unittest.TestCase):

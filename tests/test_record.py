@@ -10,8 +10,10 @@ class Runs:
 
     def __init__(self, seed):
         self.random = random.Random(seed)
+        # The journal: the model that it begins from, and the changes noted since.
+        self.base = None
+        self.changes = []
         self.model = None
-        self.before = []
         self.calls = []
         self.told = []
 
@@ -19,59 +21,94 @@ class Runs:
         self.calls.append(call)
         self.told.append(told)
 
-    def start(self, kind):
+    def begin_journal(self, model):
+        self.base = model
+        self.changes = []
+        self.model = model.behind([])
+
+    def start(self):
         wide, high = self.random.randint(1, 8), self.random.randint(1, 8)
         count = len(desk.places(wide, high))
         first = desk.panel(wide, high, [self.random.randrange(3) for _ in range(count)])
         steps = [desk.move_step(self.random.randrange(8)) for _ in range(self.random.randrange(5))]
         cut = self.random.randint(0, len(steps))
-        if kind == 0:
-            self.model = desk.Model(first)
+        if self.random.randrange(2):
+            self.begin_journal(desk.Model(first))
             self.add(desk.begin(first), [0])
         else:
-            self.model = desk.Model(first, steps[:cut], steps[cut:])
+            self.begin_journal(desk.Model(first, steps[:cut], steps[cut:]))
             self.add(desk.load(self.model.bytes()), [0])
-        self.before = desk.beginning(self.model.bytes())
 
-    def note(self, call, change):
-        self.before = self.before + change
-        self.add(call, [0] + change + desk.low(desk.crc(self.before), 4))
+    def play(self):
+        """Play the journal so far, torn anywhere behind its beginning."""
+        whole = desk.journal(self.base.bytes(), self.changes)
+        size = len(whole) - 12 * len(self.changes)
+        cut = self.random.randint(size, len(whole))
+        count = (cut - size) // 12
+        self.add(desk.play(whole[:cut]), [count, size + 12 * count])
+        self.changes = self.changes[:count]
+        self.model = self.base.behind(self.changes)
 
-    def change(self):
-        kind = self.random.randrange(3)
+    def head(self):
+        self.begin_journal(self.model)
+        self.add(desk.HEAD, desk.counted(desk.beginning(self.model.bytes())))
+
+    def question(self):
+        at = self.random.randrange(4)
+        self.add([desk.PANEL, desk.DRAWN, desk.COUNTS, desk.SAVE][at], self.model.asked()[at])
+
+    def change(self, change, refusal):
+        """This undo, redo or right step, which is refused so where it can't be done."""
+        if self.model.can(change):
+            self.model.change(change)
+            self.changes = self.changes + [change]
+            note = desk.notes(desk.beginning(self.base.bytes()), self.changes)[-1]
+            self.add(desk.call_of(change), [0] + note)
+        else:
+            self.add(desk.call_of(change), [refusal])
+
+    def set_at(self):
         count = len(self.model.first) - 6
-        place, number = self.random.randint(0, count), self.random.randint(0, 8)
-        sign = number % 4
-        if kind == 0:
-            self.undo()
-        elif kind == 1 and number > 7 or kind == 2 and sign > 2:
-            self.add(desk.move(number) if kind == 1 else desk.set_at(place, sign), [-1])
-        elif kind == 2 and place == count:
-            self.add(desk.set_at(place, sign), [-4])
-        elif len(self.model.done) == 64:
-            self.add(desk.move(number) if kind == 1 else desk.set_at(place, sign), [-3])
+        place, sign = self.random.randint(0, count), self.random.choice((0, 1, 2, 0, 1, 2, 3))
+        if sign > 2 or place == count:
+            self.add(desk.set_at(place, sign), [-1 if sign > 2 else -4])
         else:
-            self.step(desk.move_step(number) if kind == 1 else desk.set_step(place, sign))
+            self.change(desk.set_step(place, sign), -3)
 
-    def undo(self):
-        if self.model.done:
-            self.model.undo()
-            self.note(desk.undo(), desk.UNDO)
+    def move(self):
+        motion = self.random.randint(0, 8)
+        if motion > 7:
+            self.add(desk.move(motion), [-1])
         else:
-            self.add(desk.undo(), [-5])
+            self.change(desk.move_step(motion), -3)
 
-    def step(self, step):
-        self.model.step(step)
-        self.note(desk.move(step[2]) if step[0] else desk.set_at(step[2], step[4]), step)
+    def call(self):
+        kind = self.random.choice("ssssmmuuurrqqq")
+        if kind == "u":
+            self.change(desk.UNDO, -5)
+        elif kind == "r":
+            self.change(desk.REDO, -5)
+        elif kind == "s":
+            self.set_at()
+        elif kind == "m":
+            self.move()
+        else:
+            self.question()
 
 
 def run(seed):
     runs = Runs(seed)
-    runs.start(0)
-    for _ in range(150):
-        if runs.random.randrange(40) == 0:
-            runs.start(runs.random.randrange(2))
-        runs.change()
+    runs.start()
+    while len(runs.calls) < 190:
+        turn = runs.random.randrange(60)
+        if turn == 0:
+            runs.start()
+        elif turn == 1:
+            runs.play()
+        elif turn == 2:
+            runs.head()
+        else:
+            runs.call()
     return runs
 
 
@@ -93,7 +130,19 @@ class Record(unittest.TestCase):
         for seed in range(12):
             runs = run(seed)
             self.assertEqual(desk.ask(*runs.calls), runs.told)
-            self.assertEqual(desk.held(*runs.calls), (runs.model.bytes(), runs.model.panel()))
+            questions = [desk.PANEL, desk.DRAWN, desk.COUNTS, desk.SAVE]
+            self.assertEqual(desk.ask(*runs.calls, *questions)[-4:], runs.model.asked())
+
+    def test_the_runs_have_every_call_and_refusal(self):
+        calls, refusals = set(), set()
+        for seed in range(12):
+            runs = run(seed)
+            self.assertLessEqual(len(runs.calls), 200)
+            self.assertLessEqual(len(sum(runs.calls, [])), 31000)
+            calls.update(call[0] for call in runs.calls)
+            refusals.update(told[0] for told in runs.told if told[0] < 0)
+        self.assertEqual(calls, set(range(1, 13)))
+        self.assertEqual(refusals, {-1, -4, -5})
 
     def test_what_is_handed_in_is_not_changed(self):
         calls = sum(run(1).calls, []) + desk.play(desk.beginning(desk.session(desk.panel(2, 2)))) + desk.set_at(0, 1)
